@@ -6,14 +6,15 @@ import (
 
 	"cuboid/api"
 	"cuboid/code"
+	"cuboid/samples"
 )
 
 // fiberOf: what the chapter says of Fiber, of a good c of few places: those of from that are carried to at.
 func fiberOf(c api.Catalog, to api.Node, at api.Coord, from api.Node) []api.Coord {
-	if !isPlace(c, to, at) || !isNode(c, from) || !isBelow(from, to) {
+	if !samples.IsPlace(c, to, at) || !samples.IsNode(c, from) || !samples.IsBelow(from, to) {
 		return nil
 	}
-	return slices.DeleteFunc(placesOf(c, from), func(fine api.Coord) bool {
+	return slices.DeleteFunc(samples.Places(c, from), func(fine api.Coord) bool {
 		coarse, _ := toOf(c, from, to, fine)
 		return coarse != at
 	})
@@ -29,10 +30,10 @@ func holdFiber(t *testing.T, c api.Catalog, to api.Node, at api.Coord, from api.
 
 // P6.2: each place of each node, of each node: of itself, of a finer one, of a coarser one, of one that is neither.
 func TestFiber(t *testing.T) {
-	for _, c := range goods() {
-		for _, to := range nodesOf(c) {
-			for _, at := range placesOf(c, to) {
-				for _, from := range nodesOf(c) {
+	for _, c := range samples.Goods() {
+		for _, to := range samples.Nodes(c) {
+			for _, at := range samples.Places(c, to) {
+				for _, from := range samples.Nodes(c) {
 					holdFiber(t, c, to, at, from)
 				}
 			}
@@ -42,9 +43,9 @@ func TestFiber(t *testing.T) {
 
 // P6.2: rising by code.Key, each place once.
 func TestFiberRises(t *testing.T) {
-	for _, c := range goods() {
-		for _, to := range nodesOf(c) {
-			for _, at := range placesOf(c, to) {
+	for _, c := range samples.Goods() {
+		for _, to := range samples.Nodes(c) {
+			for _, at := range samples.Places(c, to) {
 				got := Fiber(c, to, at, api.Node{})
 				for i := 1; i < len(got); i++ {
 					if code.Key(got[i-1]) >= code.Key(got[i]) {
@@ -59,20 +60,20 @@ func TestFiberRises(t *testing.T) {
 // P6.2: nodes that are none of the catalog's, one level behind the whole, beyond the dimensions, with numbers up to
 // 255; places that are none of the node's.
 func TestFiberOfWrong(t *testing.T) {
-	for _, c := range goods() {
-		all := nodesOf(c)
+	for _, c := range samples.Goods() {
+		all := samples.Nodes(c)
 		top := all[len(all)-1]
 		for _, v := range all {
-			places := placesOf(c, v)
+			places := samples.Places(c, v)
 			end := places[len(places)-1]
-			for _, other := range spoilt(v) {
+			for _, other := range samples.Spoilt(v) {
 				holdFiber(t, c, top, api.Coord{}, other)
 				holdFiber(t, c, v, end, other)
 				holdFiber(t, c, other, api.Coord{}, v)
 				holdFiber(t, c, other, end, v)
 				holdFiber(t, c, other, api.Coord{}, other)
 			}
-			for _, at := range spoilt(end) {
+			for _, at := range samples.Spoilt(end) {
 				holdFiber(t, c, v, at, v)
 				holdFiber(t, c, v, at, api.Node{})
 			}
@@ -82,7 +83,7 @@ func TestFiberOfWrong(t *testing.T) {
 
 // P6.2: the example, and some more written out: a member to which nobody belongs among them.
 func TestFiberExamples(t *testing.T) {
-	c := catalogOf(api.Dim{Sizes: []int{4, 2}, Up: [][]int{{1, 0, 1, 0}}}, api.Dim{Sizes: []int{2, 3}, Up: [][]int{{2, 0}}})
+	c := samples.Catalog(1, api.Dim{Sizes: []int{4, 2}, Up: [][]int{{1, 0, 1, 0}}}, api.Dim{Sizes: []int{2, 3}, Up: [][]int{{2, 0}}})
 	for _, x := range []struct {
 		c    api.Catalog
 		to   api.Node
@@ -115,7 +116,7 @@ func TestFiberExamples(t *testing.T) {
 
 // flat: four dimensions of one level.
 func flat(sizes [4]int) api.Catalog {
-	return catalogOf(dimOf(inTurn, sizes[0]), dimOf(inTurn, sizes[1]), dimOf(inTurn, sizes[2]), dimOf(inTurn, sizes[3]))
+	return samples.Catalog(1, samples.Dim(samples.InTurn, sizes[0]), samples.Dim(samples.InTurn, sizes[1]), samples.Dim(samples.InTurn, sizes[2]), samples.Dim(samples.InTurn, sizes[3]))
 }
 
 // P6.2: all places, or none where they are more than MaxPlaces, whichever dimension is the wide one. 5001 places no
@@ -153,7 +154,7 @@ func TestFiberAtTheLimit(t *testing.T) {
 // P6.2: a fiber of just MaxPlaces, place by place.
 func TestFiberOfMaxPlaces(t *testing.T) {
 	sizes := [4]int{5, 40, 1, 25}
-	if got := Fiber(flat(sizes), api.Node{1, 1, 1, 1}, api.Coord{}, api.Node{}); !slices.Equal(got, product[api.Coord](sizes)) || len(got) != api.MaxPlaces {
+	if got := Fiber(flat(sizes), api.Node{1, 1, 1, 1}, api.Coord{}, api.Node{}); !slices.Equal(got, samples.Product[api.Coord](sizes)) || len(got) != api.MaxPlaces {
 		t.Errorf("Fiber: %d places", len(got))
 	}
 }
@@ -192,10 +193,10 @@ func TestFiberOfWide(t *testing.T) {
 
 // P6.4: carried twice is carried once, over each node in between.
 func TestCarriedTwice(t *testing.T) {
-	for _, c := range goods() {
-		for _, from := range nodesOf(c) {
-			for _, by := range nodesOf(c) {
-				if isBelow(from, by) {
+	for _, c := range samples.Goods() {
+		for _, from := range samples.Nodes(c) {
+			for _, by := range samples.Nodes(c) {
+				if samples.IsBelow(from, by) {
 					holdTwice(t, c, from, by)
 				}
 			}
@@ -206,14 +207,14 @@ func TestCarriedTwice(t *testing.T) {
 // holdTwice carries the last and the middle one of from's places over by to a node that lies above both.
 func holdTwice(t *testing.T, c api.Catalog, from, by api.Node) {
 	t.Helper()
-	places := placesOf(c, from)
+	places := samples.Places(c, from)
 	for _, at := range []api.Coord{places[len(places)-1], places[len(places)/2]} {
 		half, ok := To(c, from, by, at)
-		if !ok || !isPlace(c, by, half) {
+		if !ok || !samples.IsPlace(c, by, half) {
 			t.Fatalf("To(%v, %v, %v, %v): %v, %v", c, from, by, at, half, ok)
 		}
-		for _, to := range nodesOf(c) {
-			if !isBelow(by, to) {
+		for _, to := range samples.Nodes(c) {
+			if !samples.IsBelow(by, to) {
 				continue
 			}
 			once, _ := To(c, from, to, at)
@@ -226,10 +227,10 @@ func holdTwice(t *testing.T, c api.Catalog, from, by api.Node) {
 
 // P6.4: a node's places are parted by what they are carried to: each lies in just one fiber, that of its To.
 func TestFibersPart(t *testing.T) {
-	for _, c := range goods() {
-		for _, from := range nodesOf(c) {
-			for _, to := range nodesOf(c) {
-				if isBelow(from, to) {
+	for _, c := range samples.Goods() {
+		for _, from := range samples.Nodes(c) {
+			for _, to := range samples.Nodes(c) {
+				if samples.IsBelow(from, to) {
 					holdParts(t, c, from, to)
 				}
 			}
@@ -240,7 +241,7 @@ func TestFibersPart(t *testing.T) {
 func holdParts(t *testing.T, c api.Catalog, from, to api.Node) {
 	t.Helper()
 	var all []api.Coord
-	for _, at := range placesOf(c, to) {
+	for _, at := range samples.Places(c, to) {
 		for _, fine := range Fiber(c, to, at, from) {
 			if got, ok := To(c, from, to, fine); got != at || !ok {
 				t.Fatalf("%v: %v of %v lies in %v of %v, and is carried to %v, %v", c, fine, from, at, to, got, ok)
@@ -249,7 +250,7 @@ func holdParts(t *testing.T, c api.Catalog, from, to api.Node) {
 		}
 	}
 	slices.SortFunc(all, func(a, b api.Coord) int { return slices.Compare(a[:], b[:]) })
-	if !slices.Equal(all, placesOf(c, from)) {
+	if !slices.Equal(all, samples.Places(c, from)) {
 		t.Fatalf("%v: the fibers of %v hold %v of %v", c, to, all, from)
 	}
 }

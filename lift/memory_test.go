@@ -6,6 +6,7 @@ import (
 
 	"cuboid/api"
 	"cuboid/room"
+	"cuboid/samples"
 	"cuboid/schema"
 )
 
@@ -14,12 +15,12 @@ var wrong = api.Coord{99, 99, 99, 99}
 
 // Rule 2: what is handed in stays as it is, its spare room too, whatever becomes of what is told.
 func TestLeavesWhatIsHandedIn(t *testing.T) {
-	for i, was := range slices.Concat(goods(), bads()) {
+	for i, was := range slices.Concat(samples.Goods(), samples.Bads()) {
 		c := room.Catalog(was)
 		before := room.Full(c)
 		members := room.Behind([]int{9, 1, 0, 1, -5}, room.Mark)
 		listed := slices.Clone(members[:cap(members)])
-		for _, v := range product[api.Node]([4]int{3, 2, 2, 2}) {
+		for _, v := range samples.Product[api.Node]([4]int{3, 2, 2, 2}) {
 			To(c, api.Node{}, v, api.Coord{})
 			room.Fill(Fiber(c, v, api.Coord{}, api.Node{}), wrong)
 			for dim := range api.MaxDims {
@@ -37,9 +38,9 @@ func TestLeavesWhatIsHandedIn(t *testing.T) {
 
 // Rule 2: no two answers share memory, and a change of the catalog is nothing to what was told.
 func TestAnswersAreNewMemory(t *testing.T) {
-	for _, was := range goods() {
-		for _, to := range nodesOf(was) {
-			c, at := room.Catalog(was), placesOf(was, to)[0]
+	for _, was := range samples.Goods() {
+		for _, to := range samples.Nodes(was) {
+			c, at := room.Catalog(was), samples.Places(was, to)[0]
 			want := fiberOf(was, to, at, api.Node{})
 			kept := Fiber(c, to, at, api.Node{})
 			room.Fill(Fiber(c, to, at, api.Node{}), wrong)

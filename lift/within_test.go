@@ -6,14 +6,15 @@ import (
 	"testing"
 
 	"cuboid/api"
+	"cuboid/samples"
 )
 
 // withinOf: what the chapter says of Within, of a good c.
 func withinOf(c api.Catalog, v api.Node, at api.Coord, f api.Fix) bool {
-	if !isPlace(c, v, at) || f.Dim < 0 || f.Dim >= len(c.Dims) {
+	if !samples.IsPlace(c, v, at) || f.Dim < 0 || f.Dim >= len(c.Dims) {
 		return false
 	}
-	if f.Level < int(v[f.Dim]) || f.Level >= levelsOf(c, f.Dim) {
+	if f.Level < int(v[f.Dim]) || f.Level >= samples.Levels(c, f.Dim) {
 		return false
 	}
 	return slices.Contains(f.Members, memberOf(c, f.Dim, int(v[f.Dim]), f.Level, int(at[f.Dim])))
@@ -51,9 +52,9 @@ func memberLists() [][]int {
 // P6.3: each place of each node, at each dimension and level that there is, one beside and one behind them.
 func TestWithin(t *testing.T) {
 	lists := memberLists()
-	for _, c := range goods() {
-		for _, v := range nodesOf(c) {
-			for _, at := range placesOf(c, v) {
+	for _, c := range samples.Goods() {
+		for _, v := range samples.Nodes(c) {
+			for _, at := range samples.Places(c, v) {
 				for dim := -1; dim <= len(c.Dims); dim++ {
 					for level := -1; level <= api.MaxLevels+1; level++ {
 						for _, members := range lists {
@@ -69,7 +70,7 @@ func TestWithin(t *testing.T) {
 // P6.3: dimensions and levels of any number; numbers that would be one of the catalog's, were they cut to a byte.
 func TestWithinFarOff(t *testing.T) {
 	numbers := []int{math.MinInt, math.MinInt32, -257, -256, -255, -2, -1, 0, 1, 4, 5, 255, 256, 257, math.MaxInt32, 1 << 32, math.MaxInt}
-	for _, c := range []api.Catalog{example(), goods()[12], wide()} {
+	for _, c := range []api.Catalog{example(), samples.Goods()[12], wide()} {
 		for _, v := range []api.Node{{}, {1, 1, 1, 1}, {1}, {255}} {
 			for _, dim := range numbers {
 				for _, level := range numbers {
@@ -83,18 +84,18 @@ func TestWithinFarOff(t *testing.T) {
 // P6.3: nodes that are none of the catalog's, and places that are none of the node's, whatever the fix asks for.
 func TestWithinOfWrong(t *testing.T) {
 	all := upTo(api.MaxMembers)
-	for _, c := range goods() {
-		for _, v := range nodesOf(c) {
-			places := placesOf(c, v)
+	for _, c := range samples.Goods() {
+		for _, v := range samples.Nodes(c) {
+			places := samples.Places(c, v)
 			end := places[len(places)-1]
 			for dim := range c.Dims {
 				f := api.Fix{Dim: dim, Level: len(c.Dims[dim].Sizes), Members: all}
 				holdWithin(t, c, v, end, f)
-				for _, other := range spoilt(v) {
+				for _, other := range samples.Spoilt(v) {
 					holdWithin(t, c, other, api.Coord{}, f)
 					holdWithin(t, c, other, end, f)
 				}
-				for _, at := range spoilt(end) {
+				for _, at := range samples.Spoilt(end) {
 					holdWithin(t, c, v, at, f)
 				}
 			}
@@ -104,7 +105,7 @@ func TestWithinOfWrong(t *testing.T) {
 
 // P6.3: some written out.
 func TestWithinExamples(t *testing.T) {
-	c := catalogOf(api.Dim{Sizes: []int{4, 2}, Up: [][]int{{0, 0, 1, 1}}}, api.Dim{Sizes: []int{2, 3}, Up: [][]int{{2, 0}}})
+	c := samples.Catalog(1, api.Dim{Sizes: []int{4, 2}, Up: [][]int{{0, 0, 1, 1}}}, api.Dim{Sizes: []int{2, 3}, Up: [][]int{{2, 0}}})
 	for _, x := range []struct {
 		v    api.Node
 		at   api.Coord
