@@ -47,6 +47,7 @@ func TestLeavesBoth(t *testing.T) {
 			for _, b := range some() {
 				first, second := hold(a, wrong), hold(b, wrong)
 				Same(first.list, second.list)
+				Net(first.list, second.list)
 				kept, _ := told(first.list, second.list)
 				want := slices.Clone(kept)
 				other, _ := told(first.list, second.list)

@@ -1,25 +1,23 @@
 package bag
 
-import (
-	"cuboid/api"
-	"cuboid/calc"
-)
+import "cuboid/calc"
 
 const (
 	partBits = 22
 	partMask = 1<<partBits - 1
 )
 
-// parts is a sum of a bag's values that need not be an int64: high times 2^44, middle times 2^22, and low. A value has
-// at most 2^22 of each, and a bag at most 2^40 values: none of the three can go round.
+// parts is a sum of two bags' values, those of one less those of the other, that need not be an int64: high times 2^44,
+// middle times 2^22, and low. A value has at most 2^22 of each, and a bag at most 2^40 values: none of the three can go
+// round, to either side.
 type parts struct{ high, middle, low int64 }
 
-// plus is the sum of p and of r's value, as often as it is there.
-func (p parts) plus(r api.Run) parts {
+// plus is the sum of p and of n times v.
+func (p parts) plus(v, n int64) parts {
 	return parts{
-		high:   p.high + (r.V>>(2*partBits))*r.N,
-		middle: p.middle + (r.V>>partBits&partMask)*r.N,
-		low:    p.low + (r.V&partMask)*r.N,
+		high:   p.high + (v>>(2*partBits))*n,
+		middle: p.middle + (v>>partBits&partMask)*n,
+		low:    p.low + (v&partMask)*n,
 	}
 }
 

@@ -163,3 +163,91 @@ func TestSumOfMany(t *testing.T) {
 		}
 	}
 }
+
+// netOf: what a comes to less what b comes to, by numbers without an end.
+func netOf(a, b []api.Run) (int64, bool) {
+	if !goodOf(a) || !goodOf(b) {
+		return 0, false
+	}
+	net := new(big.Int)
+	for _, r := range a {
+		net.Add(net, new(big.Int).Mul(big.NewInt(r.V), big.NewInt(r.N)))
+	}
+	for _, r := range b {
+		net.Sub(net, new(big.Int).Mul(big.NewInt(r.V), big.NewInt(r.N)))
+	}
+	if !net.IsInt64() {
+		return 0, false
+	}
+	return net.Int64(), true
+}
+
+func holdNet(t *testing.T, a, b []api.Run) bool {
+	t.Helper()
+	want, is := netOf(a, b)
+	if got, ok := Net(a, b); got != want || ok != is {
+		t.Fatalf("Net(%v, %v): %d %v, not %d %v", a, b, got, ok, want, is)
+	}
+	return is
+}
+
+// Beside the chapter: some written out: one or both of them no int64 by itself, values of both, both ends, what may not be.
+func TestNet(t *testing.T) {
+	for _, x := range []struct {
+		a, b []api.Run
+		want int64
+		ok   bool
+	}{
+		{nil, nil, 0, true}, {Of(5), nil, 5, true}, {nil, Of(5), -5, true}, {Of(5), Of(3), 2, true}, {Of(3), Of(5), -2, true}, {Of(3, 1, 3), Of(3, 1, 3), 0, true}, {of(-4, 5), of(-7, 2, 3, 4), -18, true},
+		{of(top, 2), of(top-1, 2), 2, true}, {of(low, 2), of(low+1, 2), -2, true}, {of(1, 1, top, 1), Of(2), top - 1, true}, {of(-7, 1), of(low, 1, -1, 1), top - 5, true}, {of(top, most), of(top-1, most), most, true}, {of(low, most), of(low+1, most), -most, true}, {of(top, most), of(top, most), 0, true}, {of(low, most), of(low, most), 0, true},
+		{nil, of(-top, 1), top, true}, {nil, of(low, 1), 0, false}, {Of(-1), of(low, 1), top, true}, {Of(0), of(low, 1), 0, false}, {nil, of(top, 1), -top, true}, {Of(-1), of(top, 1), low, true}, {Of(-2), of(top, 1), 0, false}, {of(top, 1), Of(-1), 0, false}, {of(top, 1), Of(1), top - 1, true}, {of(low, 1), Of(1), 0, false}, {of(low, 1), Of(-1), low + 1, true},
+		{of(top, 2), Of(top), top, true}, {of(top, 2), of(top-1, 1), 0, false}, {of(low, 2), Of(low), low, true}, {of(low, 2), Of(low + 1), 0, false}, {of(top, most), of(low, most), 0, false}, {of(low, most), of(top, most), 0, false}, {of(-1<<23, most), nil, low, true}, {nil, of(-1<<23, most), 0, false}, {nil, of(1<<23, most), low, true}, {nil, of(1<<23, most-1, 1<<23+1, 1), 0, false},
+		{of(1, 0), nil, 0, false}, {nil, of(1, 0), 0, false}, {of(1, 1, 1, 1), of(1, 1, 1, 1), 0, false}, {of(0, most+1), nil, 0, false}, {nil, of(0, most+1), 0, false}, {of(2, 1, 1, 1), Of(1), 0, false}, {Of(1), of(2, 1, 1, 1), 0, false}, {Of(1), of(1, -1), 0, false},
+	} {
+		if got, ok := Net(x.a, x.b); got != x.want || ok != x.ok {
+			t.Errorf("Net(%v, %v): %d %v, not %d %v", x.a, x.b, got, ok, x.want, x.ok)
+		}
+	}
+}
+
+// Every two of the bags, and of such that may not be.
+func TestNetOfSome(t *testing.T) {
+	fits, not := 0, 0
+	for _, a := range some() {
+		for _, b := range some() {
+			if holdNet(t, a, b) {
+				fits++
+			} else {
+				not++
+			}
+		}
+	}
+	if fits < 1000 || not < 1000 {
+		t.Errorf("%d fit, %d do not", fits, not)
+	}
+}
+
+// Every two of the powers, as often as MaxCount, where the parts of a net are the greatest.
+func TestNetOfPowers(t *testing.T) {
+	for _, v := range powers() {
+		for _, w := range powers() {
+			holdNet(t, of(v, most), of(w, most))
+			holdNet(t, of(v, most-1), of(w, most))
+			holdNet(t, of(v, most), of(w, 1))
+			holdNet(t, of(v, 1), of(w, 1))
+		}
+	}
+}
+
+// Nets about the last int64 and about the least one, of sums that are far from any.
+func TestNetAtTheEnds(t *testing.T) {
+	for _, n := range []int64{1, 2, 1000, 1 << 20, 1 << 30, 1<<38 + 1} {
+		for _, k := range []int64{-2, -1, 0, 1, 2} {
+			// What the ends come to is top and n, or low less n, and the value beside them takes n back, but k.
+			holdNet(t, of(k-n, 1, top, n+1), of(top-1, n))
+			holdNet(t, of(top-1, n), of(k-n, 1, top, n+1))
+			holdNet(t, of(low, n+1, k+n, 1), of(low+1, n))
+			holdNet(t, of(low+1, n), of(low, n+1, k+n, 1))
+		}
+	}
+}
