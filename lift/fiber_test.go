@@ -15,7 +15,7 @@ func fiberOf(c api.Catalog, to api.Node, at api.Coord, from api.Node) []api.Coor
 		return nil
 	}
 	return slices.DeleteFunc(samples.Places(c, from), func(fine api.Coord) bool {
-		coarse, _ := toOf(c, from, to, fine)
+		coarse, _ := samples.Carried(c, from, to, fine)
 		return coarse != at
 	})
 }
@@ -184,7 +184,7 @@ func TestFiberOfWide(t *testing.T) {
 			t.Errorf("Fiber(%v, %v, %v): %d places, not %d", x.to, x.at, x.from, len(got), x.want)
 		}
 		for _, fine := range got {
-			if at, ok := toOf(c, x.from, x.to, fine); at != x.at || !ok {
+			if at, ok := samples.Carried(c, x.from, x.to, fine); at != x.at || !ok {
 				t.Fatalf("Fiber(%v, %v, %v): %v is carried to %v", x.to, x.at, x.from, fine, at)
 			}
 		}

@@ -17,31 +17,9 @@ func wide() api.Catalog {
 	return samples.Catalog(1, samples.Dim(samples.InTurn, 40, 40, 40, 40), samples.Dim(samples.Backwards, 40, 40, 40, 40), samples.Dim(samples.Last, 40, 40, 40, 40), samples.Dim(samples.InTurn, 40, 7, 40, 3))
 }
 
-// memberOf: the member of the level to that m of the level from belongs to, step by step.
-func memberOf(c api.Catalog, dim, from, to, m int) int {
-	for ; from < to; from++ {
-		if from >= len(c.Dims[dim].Up) {
-			return 0
-		}
-		m = c.Dims[dim].Up[from][m]
-	}
-	return m
-}
-
-// toOf: what the chapter says of To, of a good c.
-func toOf(c api.Catalog, from, to api.Node, at api.Coord) (api.Coord, bool) {
-	if !samples.IsPlace(c, from, at) || !samples.IsNode(c, to) || !samples.IsBelow(from, to) {
-		return api.Coord{}, false
-	}
-	for dim, m := range at {
-		at[dim] = uint8(memberOf(c, dim, int(from[dim]), int(to[dim]), int(m)))
-	}
-	return at, true
-}
-
 func holdTo(t *testing.T, c api.Catalog, from, to api.Node, at api.Coord) {
 	t.Helper()
-	want, is := toOf(c, from, to, at)
+	want, is := samples.Carried(c, from, to, at)
 	if got, ok := To(c, from, to, at); got != want || ok != is {
 		t.Fatalf("To(%v, %v, %v, %v): %v, %v, not %v, %v", c, from, to, at, got, ok, want, is)
 	}

@@ -17,7 +17,7 @@ func withinOf(c api.Catalog, v api.Node, at api.Coord, f api.Fix) bool {
 	if f.Level < int(v[f.Dim]) || f.Level >= samples.Levels(c, f.Dim) {
 		return false
 	}
-	return slices.Contains(f.Members, memberOf(c, f.Dim, int(v[f.Dim]), f.Level, int(at[f.Dim])))
+	return slices.Contains(f.Members, samples.Member(c, f.Dim, int(v[f.Dim]), f.Level, int(at[f.Dim])))
 }
 
 func holdWithin(t *testing.T, c api.Catalog, v api.Node, at api.Coord, f api.Fix) {

@@ -131,6 +131,29 @@ func IsBelow(a, b api.Node) bool {
 	return a[0] <= b[0] && a[1] <= b[1] && a[2] <= b[2] && a[3] <= b[3]
 }
 
+// Member tells the member of the level to that m of the level from belongs to, step by step, of a good c.
+func Member(c api.Catalog, dim, from, to, m int) int {
+	for ; from < to; from++ {
+		if from >= len(c.Dims[dim].Up) {
+			return 0
+		}
+		m = c.Dims[dim].Up[from][m]
+	}
+	return m
+}
+
+// Carried tells the place of the node to in which at, a place of from, lies; false where one of them is none of a good
+// c's, or from is not below to.
+func Carried(c api.Catalog, from, to api.Node, at api.Coord) (api.Coord, bool) {
+	if !IsPlace(c, from, at) || !IsNode(c, to) || !IsBelow(from, to) {
+		return api.Coord{}, false
+	}
+	for dim, m := range at {
+		at[dim] = uint8(Member(c, dim, int(from[dim]), int(to[dim]), int(m)))
+	}
+	return at, true
+}
+
 // Product tells all fours of numbers, the first below sizes[0], and so on; rising.
 func Product[F ~[4]uint8](sizes [4]int) []F {
 	var all []F
